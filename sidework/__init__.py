@@ -1,0 +1,1 @@
+"""Sidework: works that part and meet, and hands that share them."""

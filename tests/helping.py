@@ -1,0 +1,216 @@
+"""What several tests need: books made by chance from a fixed seed, and slow second ways to what the document says.
+
+The second ways follow the words of the document one by one and share no code with the package.
+"""
+
+import random
+
+SIMPLE = ("set", "add", "copy")
+
+
+def nested(depth, wrap, inmost):
+    """The inmost thing, wrapped so many times."""
+    thing = inmost
+    for _ in range(depth):
+        thing = wrap(thing)
+    return thing
+
+
+def chain(depth):
+    """A body whose inmost term, a set, is within just so many others."""
+    return nested(depth, lambda term: ("row", term), ("set", 0, 1))
+
+
+def terms_in_all(count):
+    """A body of just so many terms, from 8 on, with no term within more than four others."""
+    blocks = []
+    left = count - 1
+    while left > 0:
+        size = min(left, 13)
+        left -= size
+        blocks.append(block(size))
+    return ("row", *blocks)
+
+
+def block(size):
+    """A term that is 1 to 13 terms in all."""
+    if size <= 7:
+        return ("row", *[("set", 0, k) for k in range(size - 1)])
+    inner = ("row", *[("set", 1, k) for k in range(size - 7)])
+    return ("row", *[("set", 0, k) for k in range(5)], inner)
+
+
+def parts_by_hand(term):
+    word = term[0]
+    if word in SIMPLE or word == "wait":
+        return []
+    if word in ("look", "lend"):
+        return list(term[2:])
+    return list(term[1:])
+
+
+def terms_by_hand(book):
+    """All terms by their places."""
+    found = {}
+
+    def visit(place, term):
+        found[place] = term
+        for at, part in enumerate(parts_by_hand(term)):
+            visit((*place, at), part)
+
+    visit((), book[1])
+    return found
+
+
+class Slow:
+    """A work done by the words of point 8: open and through are what the rules lead to, over and over."""
+
+    def __init__(self, book, cells):
+        self.terms = terms_by_hand(book)
+        self.now = list(cells)
+        self.done = []
+        self.turn = {}
+
+    def lend_of(self, name):
+        return [p for p, t in self.terms.items() if t[0] == "lend" and t[1] == name][0]
+
+    def becomes_open(self, place, opened, through):
+        if place == ():
+            return True
+        above, at = place[:-1], place[-1]
+        word = self.terms[above][0]
+        if above not in opened:
+            return False
+        if word == "row":
+            return at == 0 or (*above, at - 1) in through
+        if word == "look":
+            return self.turn.get(above) == at
+        return word in ("both", "lend")
+
+    def becomes_through(self, place, opened, through):
+        if place not in opened:
+            return False
+        term = self.terms[place]
+        word = term[0]
+        count = len(parts_by_hand(term))
+        if word in SIMPLE:
+            return place in self.turn
+        if word == "look":
+            return place in self.turn and (*place, self.turn[place]) in through
+        if word == "row":
+            return count == 0 or (*place, count - 1) in through
+        if word == "both":
+            return all((*place, k) in through for k in range(count))
+        if word == "lend":
+            return True
+        return (*self.lend_of(term[1]), 0) in through
+
+    def open_deeds(self):
+        opened, through = set(), set()
+        grown = True
+        while grown:
+            size = len(opened) + len(through)
+            for place in self.terms:
+                if self.becomes_open(place, opened, through):
+                    opened.add(place)
+                if self.becomes_through(place, opened, through):
+                    through.add(place)
+            grown = len(opened) + len(through) > size
+        return sorted(p for p in opened if self.terms[p][0] in (*SIMPLE, "look") and p not in self.turn)
+
+    def do(self, place):
+        term = self.terms[place]
+        word, x = term[0], term[1]
+        reads, wrote = (), None
+        self.turn[place] = True
+        if word == "set":
+            wrote = term[2]
+        elif word == "add":
+            reads = (self.now[x], self.now[term[2]])
+            wrote = int(str(reads[0] + reads[1])[-1])
+        elif word == "copy":
+            reads = (self.now[term[2]],)
+            wrote = self.now[term[2]]
+        else:
+            reads = (self.now[x],)
+            self.turn[place] = 1 if self.now[x] == 0 else 0
+        if wrote is not None:
+            self.now[x] = wrote
+        self.done.append((place, reads, wrote))
+
+    def weave(self, picks):
+        picks = list(picks)
+        while True:
+            ready = self.open_deeds()
+            if not ready:
+                return self.done, tuple(self.now)
+            pick = picks.pop(0) if picks else 0
+            self.do(ready[pick % len(ready)])
+
+
+class Chance:
+    """Books, cells and picks, made by chance but from a seed, so that each run of the tests has the same ones."""
+
+    def __init__(self, seed):
+        self.dice = random.Random(seed)
+
+    def book(self, size):
+        """A book of at most about so many terms."""
+        self.cells_count = self.dice.randint(1, 6)
+        self.left = size
+        self.names = list(range(10))
+        self.dice.shuffle(self.names)
+        return (self.cells_count, self.term([], 0))
+
+    def cells(self, count):
+        return tuple(self.dice.choice((0, 0, 1, 2, 5, 9)) for _ in range(count))
+
+    def cell(self):
+        return self.dice.randrange(self.cells_count)
+
+    def term(self, around, depth):
+        self.left -= 1
+        words = ["set", "add", "copy"]
+        if around:
+            words += ["wait"] * 3
+        if self.left > 0 and depth < 11:
+            words += ["look", "look", "row", "row", "row", "row", "both", "both", "both"]
+            if self.names:
+                words += ["lend"]
+        word = self.dice.choice(words)
+        if word == "set":
+            return (word, self.cell(), self.dice.randrange(10))
+        if word in ("add", "copy"):
+            return (word, self.cell(), self.cell())
+        if word == "wait":
+            return (word, self.dice.choice(around))
+        if word == "look":
+            return (word, self.cell(), self.term([], depth + 1), self.term([], depth + 1))
+        if word == "lend":
+            return (word, self.names.pop(), self.term(around, depth + 1))
+        if word == "both":
+            return (word, *[self.term(around, depth + 1) for _ in range(self.dice.randint(2, 4))])
+        return self.row(around, depth)
+
+    def row(self, around, depth):
+        parts = []
+        around = list(around)
+        for _ in range(self.dice.randint(0, 6)):
+            if self.names and self.left > 0 and self.dice.random() < 0.3:
+                name = self.names.pop()
+                self.left -= 1
+                parts.append(("lend", name, self.term(around, depth + 2)))
+                around.append(name)
+            else:
+                parts.append(self.term(around, depth + 1))
+        return ("row", *parts)
+
+
+def books_by_chance(seed, count, size):
+    """So many pairs of a book and what its cells hold."""
+    chance = Chance(seed)
+    pairs = []
+    for _ in range(count):
+        book = chance.book(chance.dice.randint(1, size))
+        pairs.append((book, chance.cells(book[0])))
+    return pairs

@@ -53,6 +53,11 @@ def cells_read(term):
     return ()
 
 
+def cells_written(term):
+    """The cells that a deed writes: none for a look, else one."""
+    return () if term[0] == "look" else (term[1],)
+
+
 def is_whole_from(least, most, thing):
     """Whether the thing is a whole number within the limits; a truth is none."""
     return isinstance(thing, int) and not isinstance(thing, bool) and least <= thing <= most
@@ -100,17 +105,24 @@ def is_made(thing):
     return True
 
 
-def places_and_terms(book):
-    """The pairs of a place and its term, by rising places."""
+def terms_as_met(book, turned):
+    """The pairs of a place and its term, inwards from the body, the parts of terms with turned words backwards."""
     pairs = []
     left = [((), book[1])]
     while left:
         place, term = left.pop()
         pairs.append((place, term))
-        # The first part is put last, so that it is taken first: a term, all within it, then the next one.
-        for at, part in reversed(list(enumerate(parts_of(term)))):
-            left.append((place + (at,), part))
+        inner = [(place + (at,), part) for at, part in enumerate(parts_of(term))]
+        # What is put last is taken first: a term, all within it, then the next one.
+        if term[0] not in turned:
+            inner.reverse()
+        left.extend(inner)
     return pairs
+
+
+def places_and_terms(book):
+    """The pairs of a place and its term, by rising places."""
+    return terms_as_met(book, ())
 
 
 def lends_twice(book):

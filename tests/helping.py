@@ -214,3 +214,109 @@ def books_by_chance(seed, count, size):
         book = chance.book(chance.dice.randint(1, size))
         pairs.append((book, chance.cells(book[0])))
     return pairs
+
+
+def deeds_by_hand(book):
+    return [place for place, term in sorted(terms_by_hand(book).items()) if term[0] in (*SIMPLE, "look")]
+
+
+def is_tied_by_hand(terms, point, other):
+    """Point 11 word by word: whether a tie leads from the one point to the other one."""
+    (way, place), (other_way, other_place) = point, other
+    term, other_term = terms[place], terms[other_place]
+    count = len(parts_by_hand(term))
+    if way == "in" and other_way == "out":
+        return place == other_place and (term[0] in (*SIMPLE, "lend", "wait") or term == ("row",))
+    if way == "in":
+        return other_place in [(*place, k) for k in range(count)] and (term[0] != "row" or other_place[-1] == 0)
+    if other_way == "in":
+        return place != () and terms[place[:-1]][0] == "row" and other_place == (*place[:-1], place[-1] + 1)
+    if other_term[0] == "wait":
+        return place != () and place[-1] == 0 and terms[place[:-1]][:2] == ("lend", other_term[1])
+    last = len(parts_by_hand(other_term)) - 1
+    if place == () or place[:-1] != other_place:
+        return False
+    return other_term[0] in ("look", "both") or (other_term[0] == "row" and place[-1] == last)
+
+
+def ties_by_hand(book):
+    """All points, each with the set of those to which it is tied."""
+    terms = terms_by_hand(book)
+    points = [(way, place) for way in ("in", "out") for place in terms]
+    return {point: {other for other in points if is_tied_by_hand(terms, point, other)} for point in points}
+
+
+def are_apart_by_hand(book, p, q):
+    """Point 12: whether there is a look with the one within its A and the other one within its B."""
+    for place, term in terms_by_hand(book).items():
+        a, b = (*place, 0), (*place, 1)
+        if term[0] == "look" and {p[:len(a)], q[:len(a)]} == {a, b}:
+            return True
+    return False
+
+
+def before_by_hand(book):
+    """Point 12: the set of all pairs (p, q) of deeds with p before q, by roads walked point by point."""
+    tied = ties_by_hand(book)
+    deeds = deeds_by_hand(book)
+    pairs = set()
+    for p in deeds:
+        met, newest = set(), {("in", p)}
+        while newest:
+            met |= newest
+            newest = {other for point in newest for other in tied[point]} - met
+        pairs |= {(p, q) for q in deeds if ("in", q) in met and p != q and not are_apart_by_hand(book, p, q)}
+    return pairs
+
+
+def orders_by_weaves(book):
+    """The set of all pairs (p, q) such that some weave does p and later q, if looks turn out as they like."""
+    pairs = set()
+    later = {}
+
+    def visit(turn):
+        """All deeds that may still be done from here."""
+        key = frozenset(turn.items())
+        if key not in later:
+            slow = Slow(book, (0,) * book[0])
+            slow.turn = turn
+            later[key] = set()
+            for place in slow.open_deeds():
+                for way in (0, 1) if slow.terms[place][0] == "look" else (True,):
+                    later[key] |= {place} | visit({**turn, place: way})
+            pairs.update((p, q) for p in turn for q in later[key])
+        return later[key]
+
+    visit({})
+    return pairs
+
+
+def some_by_chance(chance, book):
+    """Deeds of which no two are apart: looks turn out by chance, and perhaps some deeds are left out."""
+    terms = terms_by_hand(book)
+    gone = [(*place, chance.dice.randrange(2)) for place, term in terms.items() if term[0] == "look"]
+    kept = [place for place in deeds_by_hand(book) if not any(place[:len(cut)] == cut for cut in gone)]
+    rate = chance.dice.choice((0.3, 0.7, 1, 1, 1))
+    return [place for place in kept if chance.dice.random() < rate][:50]
+
+
+def somes_by_chance(seed, count, size):
+    """So many pairs of a book and some of its deeds."""
+    chance = Chance(seed)
+    return [(book, some_by_chance(chance, book)) for book, cells in books_by_chance(seed, count, size)]
+
+
+def many_roads():
+    """A book of sixty terms with four million roads and more from its first deed to its last."""
+    fours = [("both", *[("add", k, 3 - k) for k in range(4)]) for _ in range(11)]
+    body = ("row", ("set", 0, 1), *fours[:3], ("row", *fours[3:9]), ("row", *fours[9:], ("copy", 1, 0)))
+    return (4, body)
+
+
+def side_by_side(terms):
+    """A term of boths with these terms side by side, and of as few boths as there can be."""
+    left = list(terms)
+    while len(left) > 1:
+        many = 2 + (len(left) - 2) % 3
+        left = [*left[many:], ("both", *left[:many])]
+    return left[0]

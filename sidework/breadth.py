@@ -62,11 +62,16 @@ def rows_and_side(book, some):
     return rows_by(some, ahead), side_by(some, later, ahead)
 
 
+def hold_each_once(lists, some):
+    """Whether none of the lists is empty, and in them stands each of some once, and nothing else."""
+    if any(len(places) == 0 for places in lists):
+        return False
+    return sorted([place for places in lists for place in places]) == some
+
+
 def are_rows_by(before, some, rows):
     """Whether the lists are rows of some, by the pairs of which one comes before the other."""
-    if any(len(row) == 0 for row in rows):
-        return False
-    if sorted([place for row in rows for place in row]) != some:
+    if not hold_each_once(rows, some):
         return False
     for row in rows:
         for p, q in zip(row, row[1:]):

@@ -3,9 +3,12 @@
 The second ways follow the words of the document one by one and share no code with the package.
 """
 
+import itertools
 import random
 
 SIMPLE = ("set", "add", "copy")
+READS = {"set": (), "add": (1, 2), "copy": (2,), "look": (1,)}
+WRITES = {"set": (1,), "add": (1,), "copy": (1,), "look": ()}
 
 
 def nested(depth, wrap, inmost):
@@ -320,3 +323,44 @@ def side_by_side(terms):
         many = 2 + (len(left) - 2) % 3
         left = [*left[many:], ("both", *left[:many])]
     return left[0]
+
+
+def mended_like():
+    """A book as mending makes it, with more parts, terms and terms around one another than a book may have."""
+    parts = []
+    for name in range(9):
+        parts += [("lend", name, ("row", ("set", 0, name), ("add", 1, 0), ("copy", 2, 1)))]
+        if name % 2:
+            parts += [("wait", name), ("wait", name - 1)]
+        parts += [("both", ("set", 3, name), chain(16))]
+    return (4, ("row", *parts))
+
+
+def cells_by_hand(table, term):
+    return {term[at] for at in table[term[0]]}
+
+
+def share_by_hand(one, other):
+    """Whether both touch a cell that one of them writes or both, cell by cell."""
+    for cell in range(6):
+        touched = [cell in cells_by_hand(READS, term) | cells_by_hand(WRITES, term) for term in (one, other)]
+        written = [cell in cells_by_hand(WRITES, term) for term in (one, other)]
+        if all(touched) and any(written):
+            return True
+    return False
+
+
+def clashes_by_hand(book, some):
+    """Point 17 word by word, as a second way, also where some are apart."""
+    terms, before = terms_by_hand(book), before_by_hand(book)
+    pairs = []
+    for p, q in itertools.combinations(some, 2):
+        if (p, q) not in before and (q, p) not in before and share_by_hand(terms[p], terms[q]):
+            if not are_apart_by_hand(book, p, q):
+                pairs.append((p, q))
+    return sorted(pairs)
+
+
+def places_done(done):
+    """The places of what a run or a weave did, as they came."""
+    return [place for place, reads, wrote in done]

@@ -6,7 +6,7 @@ import time
 import unittest
 
 from helping import (
-    Chance, are_apart_by_hand, before_by_hand, books_by_chance, chain, deeds_by_hand, many_roads, side_by_side,
+    Chance, are_apart_by_hand, before_by_hand, books_by_chance, deeds_by_hand, many_roads, mended_like, side_by_side,
     some_by_chance, somes_by_chance, terms_by_hand)
 from sidework.books import need_book
 from sidework.breadth import are_rows, is_side, rows_and_side, stamps
@@ -66,17 +66,6 @@ def fewest_rows(before, some):
     order = sorted(some, key=lambda q: len([p for p in some if (p, q) in before]))
     put(0, [])
     return best
-
-
-def mended_like():
-    """A book as mending makes it, with more parts, terms and terms around one another than a book may have."""
-    parts = []
-    for name in range(9):
-        parts += [("lend", name, ("row", ("set", 0, name), ("add", 1, 0), ("copy", 2, 1)))]
-        if name % 2:
-            parts += [("wait", name), ("wait", name - 1)]
-        parts += [("both", ("set", 3, name), chain(16))]
-    return (4, ("row", *parts))
 
 
 class BreadthCase(unittest.TestCase):

@@ -1,39 +1,12 @@
 """Point 17: the pairs of deeds that clash."""
 
-import itertools
 import unittest
 
-from helping import before_by_hand, deeds_by_hand, many_roads, side_by_side, somes_by_chance, terms_by_hand
+from helping import clashes_by_hand, deeds_by_hand, many_roads, share_by_hand, side_by_side, somes_by_chance
 from sidework.books import need_book
 from sidework.clashes import clashes
 
-READS = {"set": (), "add": (1, 2), "copy": (2,), "look": (1,)}
-WRITES = {"set": (1,), "add": (1,), "copy": (1,), "look": ()}
 ROW = ("row",)
-
-
-def cells_by_hand(table, term):
-    return {term[at] for at in table[term[0]]}
-
-
-def share_by_hand(one, other):
-    """Whether both touch a cell that one of them writes or both, cell by cell."""
-    for cell in range(6):
-        touched = [cell in cells_by_hand(READS, term) | cells_by_hand(WRITES, term) for term in (one, other)]
-        written = [cell in cells_by_hand(WRITES, term) for term in (one, other)]
-        if all(touched) and any(written):
-            return True
-    return False
-
-
-def clashes_by_hand(book, some):
-    """Point 17 word by word, as a second way; no two of some are apart."""
-    terms, before = terms_by_hand(book), before_by_hand(book)
-    pairs = []
-    for p, q in itertools.combinations(some, 2):
-        if (p, q) not in before and (q, p) not in before and share_by_hand(terms[p], terms[q]):
-            pairs.append((p, q))
-    return sorted(pairs)
 
 
 class TestClashes(unittest.TestCase):

@@ -54,10 +54,14 @@ def side_by(some, later, ahead):
     return [place for place in some if place in begun and place not in met]
 
 
+def all_later(before, some):
+    """A dict from each of some to those of some that it comes before."""
+    return {p: [q for q in some if (p, q) in before] for p in some}
+
+
 def rows_and_side(book, some):
     """(rows, side): rows of some, as few as any, and a side of some with as many deeds."""
-    before = before_pairs(book, some)
-    later = {p: [q for q in some if (p, q) in before] for p in some}
+    later = all_later(before_pairs(book, some), some)
     ahead = all_ahead(some, later)
     return rows_by(some, ahead), side_by(some, later, ahead)
 

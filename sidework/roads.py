@@ -95,13 +95,21 @@ def is_road(book, points):
     return True
 
 
+def way_shared(p, q):
+    """The place of the inmost term that both places are at or within."""
+    shared = 0
+    for one, other in zip(p, q):
+        if one != other:
+            break
+        shared += 1
+    return p[:shared]
+
+
 def are_apart(book, p, q):
     """Whether one of two deeds is within the one part of a look, and the other one within its other part."""
-    for at, (one, other) in enumerate(zip(p, q)):
-        if one != other:
-            # Only in the term in which their ways part can they stand in unlike parts.
-            return term_at(book, p[:at])[0] == "look"
-    return False
+    # Only in the term in which their ways part can they stand in unlike parts.
+    parted = way_shared(p, q)
+    return parted != p and parted != q and term_at(book, parted)[0] == "look"
 
 
 def before_pairs(book, some):

@@ -82,6 +82,11 @@ class Work:
         self.find_ready()
 
 
+def places_told(done):
+    """The places of what is told as done, rising."""
+    return sorted([place for place, reads, wrote in done])
+
+
 def run(book, cells):
     """(done, cells): what one hand does, always the least open place, and what the cells hold behind all."""
     return weave(book, cells, [])

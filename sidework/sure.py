@@ -2,7 +2,7 @@
 
 from sidework.clashes import clashes
 from sidework.roads import before_pairs
-from sidework.runs import run
+from sidework.runs import places_told, run
 
 
 def first_clash(pairs):
@@ -20,7 +20,7 @@ def all_before(book, places, p, q):
 def sure(book, cells):
     """("sure", done) where no deeds of the one-hand run clash, else ("clash", p, q, one, other)."""
     done = run(book, cells)[0]
-    places = sorted([place for place, reads, wrote in done])
+    places = places_told(done)
     pairs = clashes(book, places)
     if len(pairs) == 0:
         return "sure", done

@@ -364,3 +364,16 @@ def clashes_by_hand(book, some):
 def places_done(done):
     """The places of what a run or a weave did, as they came."""
     return [place for place, reads, wrote in done]
+
+
+def all_weaves(after, book, cells):
+    """What each weave does and comes to, all being tried place by place, as after tells them."""
+    found = []
+    left = [[]]
+    while left:
+        places = left.pop()
+        done, behind, ready = after(book, cells, places)
+        left += [[*places, place] for place in ready]
+        if not ready:
+            found.append((done, behind))
+    return found

@@ -13,7 +13,6 @@ from sidework.errors import NoDeed, WorkError
 from sidework.keeper import Keeper
 from sidework.roads import is_before
 from sidework.runs import run
-from sidework.sure import sure
 
 ROW = ("row",)
 
@@ -102,19 +101,6 @@ class TestStep(KeeperCase):
         self.assertGreater(len([clash for clash in found if clash is not None]), 200)
         self.assertGreater(found.count(None), 200)
 
-    def test_the_first_clash_is_that_of_sure(self):
-        words = []
-        for book, cells in books_by_chance(83, 300, 20):
-            keeper = Keeper(book, cells)
-            told = []
-            while (step := keeper.step()) is not None:
-                told.append(step)
-            clashing = [(p, q) for q, p in told if p is not None]
-            expected = sure(book, cells)
-            words.append(expected[0])
-            self.assertEqual(clashing[:1], [expected[1:3]] if expected[0] == "clash" else [])
-        self.assertTrue(words.count("sure") > 50 and words.count("clash") > 50)
-
     def test_great_books_in_seconds(self):
         for book in (many_roads(), (6, side_by_side([("set", k % 6, 1) for k in range(44)])), mended_like()):
             begun = time.monotonic()
@@ -129,7 +115,8 @@ class TestStep(KeeperCase):
 
 
 class TestBefore(KeeperCase):
-    BOOK = (3, ("row", ("set", 0, 1), ("both", ("set", 1, 2), ("look", 0, ("set", 2, 3), ("set", 2, 4))), ("set", 0, 5)))
+    LOOK = ("look", 0, ("set", 2, 3), ("set", 2, 4))
+    BOOK = (3, ("row", ("set", 0, 1), ("both", ("set", 1, 2), LOOK), ("set", 0, 5)))
     DONE = [(0,), (1, 0), (1, 1), (1, 1, 0), (2,)]
 
     def ended(self):

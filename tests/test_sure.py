@@ -5,7 +5,7 @@ import time
 import unittest
 
 from helping import (
-    Chance, Slow, before_by_hand, books_by_chance, clashes_by_hand, many_roads, mended_like, places_done,
+    Chance, Slow, all_weaves, before_by_hand, books_by_chance, clashes_by_hand, many_roads, mended_like, places_done,
     share_by_hand, side_by_side, terms_by_hand)
 from sidework.books import need_book
 from sidework.runs import after, run, weave
@@ -26,19 +26,6 @@ def sure_by_hand(book, cells):
     before = before_by_hand(book)
     ahead = [place for place in places if {(place, lesser), (place, least)} & before]
     return ("clash", lesser, least, [*ahead, lesser, least], [*ahead, least, lesser])
-
-
-def all_weaves(book, cells):
-    """What each weave does and comes to, all being tried."""
-    found = []
-    left = [[]]
-    while left:
-        places = left.pop()
-        done, behind, ready = after(book, cells, places)
-        left += [[*places, place] for place in ready]
-        if not ready:
-            found.append((done, behind))
-    return found
 
 
 class SureCase(unittest.TestCase):
@@ -96,7 +83,8 @@ class TestSure(SureCase):
         self.assertEqual(self.check((1, ("both", ("set", 0, 1), ("set", 0, 1))), (0,))[0], "clash")
 
     def test_what_comes_before_either_is_done_ahead(self):
-        book = (4, ("both", ("row", ("set", 1, 1), ("set", 0, 1)), ("set", 3, 1), ("row", ("set", 2, 1), ("set", 0, 2))))
+        first, last = ("row", ("set", 1, 1), ("set", 0, 1)), ("row", ("set", 2, 1), ("set", 0, 2))
+        book = (4, ("both", first, ("set", 3, 1), last))
         self.assertEqual(self.check(book, (0, 0, 0, 0)), (
             "clash", (0, 1), (2, 1), [(0, 0), (2, 0), (0, 1), (2, 1)], [(0, 0), (2, 0), (2, 1), (0, 1)]))
 
@@ -175,7 +163,7 @@ class TestWeavesOfSureBooks(SureCase):
         many = 0
         for book, cells in books_by_chance(76, 700, 9):
             if sure(book, cells)[0] == "sure" and len(run(book, cells)[0]) <= 6:
-                weaves = all_weaves(book, cells)
+                weaves = all_weaves(after, book, cells)
                 many += len(weaves) > 1
                 for done, behind in weaves:
                     self.same(book, cells, done, behind)
@@ -210,7 +198,7 @@ class TestWeavesOfSureBooks(SureCase):
         for book, cells in books_by_chance(80, 400, 9):
             done, behind = run(book, cells)
             if len(done) <= 5:
-                ends = [(sorted(map(repr, done)), behind) for done, behind in all_weaves(book, cells)]
+                ends = [(sorted(map(repr, done)), behind) for done, behind in all_weaves(after, book, cells)]
                 if any(end != ends[0] for end in ends):
                     many += 1
                     self.assertEqual(sure(book, cells)[0], "clash")

@@ -9,7 +9,8 @@ def all_ranks(before, some):
     """A dict from each of some to its rank, 1 and on, rising: of two that are free the higher rank is taken first.
 
     The next rank goes to a deed behind which all have ranks, the one for which these, the highest first, are least.
-    By such ranks (Coffman and Graham's) two hands never need a tick too many.
+    By such ranks two hands never need a tick too many: they are Coffman and Graham's, but taken by all that is behind
+    a deed, where theirs are by what is right behind it. Their proof holds for these too.
     """
     later = all_later(before, some)
     ranks = {}
